@@ -1,0 +1,1 @@
+"""A lock for ships: see shiplock.desk."""
